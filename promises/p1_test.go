@@ -1,0 +1,96 @@
+package promises
+
+import (
+	"math"
+	"math/rand"
+	"strings"
+	"testing"
+
+	"derive/api"
+	"derive/derive"
+)
+
+// ask makes every call of what a text gives, and looks at the form of the answers.
+func ask(t *testing.T, s string) {
+	t.Helper()
+	p, e := derive.Compile(s)
+	if e < api.OK || e > api.ErrStrata || (p != nil) != (e == api.OK) {
+		t.Fatalf("P1: Compile(%q) = %d, with a program: %v", s, e, p != nil)
+	}
+	if p == nil {
+		return
+	}
+	told(p)
+	for _, i := range []int{math.MinInt, -1, 0, p.Clauses() - 1, p.Clauses(), math.MaxInt} {
+		c, e := p.Clause(i)
+		v, f := p.Vars(i)
+		inside := i >= 0 && i < p.Clauses()
+		if inside && (e != api.OK || f != api.OK) {
+			t.Fatalf("P7: of %q: Clause(%d) is %d, Vars(%d) is %d, want OK", s, i, e, i, f)
+		}
+		if !inside && (e != api.ErrPred || f != api.ErrPred || c != nil || v != nil) {
+			t.Fatalf("P1: of %q: Clause(%d) = %v, %d, Vars(%d) = %q, %d, want nil, ErrPred", s, i, c, e, i, v, f)
+		}
+	}
+	for _, name := range []string{"", " ", "nosuch", "X", "\xff", strings.Repeat("p", 1000)} {
+		if n, e := p.Stratum(name); n != 0 || e != api.ErrPred {
+			t.Fatalf("P1: of %q: Stratum(%q) = %d, %d, want 0, ErrPred", s, name, n, e)
+		}
+	}
+}
+
+func TestP1EveryBeginningAndEveryEnd(t *testing.T) {
+	for _, s := range samples() {
+		for i := 0; i <= len(s); i++ {
+			ask(t, s[:i])
+			ask(t, s[i:])
+		}
+	}
+}
+
+func TestP1EveryByteInEveryPlace(t *testing.T) {
+	s := "p(X) :- q(X, 1), !r."
+	for i := 0; i < len(s); i++ {
+		for c := 0; c < 256; c++ {
+			ask(t, s[:i]+string([]byte{byte(c)})+s[i+1:])
+		}
+	}
+}
+
+func TestP1AllShortTexts(t *testing.T) {
+	pieces := []string{"p", "X", "1", "(", ")", ",", ".", "!", ":-", " "}
+	texts := []string{""}
+	for length := 0; length < 5; length++ {
+		var longer []string
+		for _, s := range texts {
+			for _, piece := range pieces {
+				longer = append(longer, s+piece)
+			}
+		}
+		texts = longer
+		for _, s := range texts {
+			ask(t, s)
+		}
+	}
+}
+
+func TestP1AnyBytes(t *testing.T) {
+	r := rand.New(rand.NewSource(1))
+	for n := 0; n < 5000; n++ {
+		b := make([]byte, r.Intn(api.MaxText+20))
+		for i := range b {
+			b[i] = byte(r.Intn(256))
+		}
+		ask(t, string(b))
+	}
+}
+
+func TestP1FullTexts(t *testing.T) {
+	for _, piece := range []string{"a.", "(", ")", "!", ":-", "a:-", "a(", "a,", "a:-!b.", "p(a)", "p(a,", ".", "a ", "1", "A", ":", " ", "\n", "a:-a,"} {
+		s := strings.Repeat(piece, api.MaxText/len(piece))
+		ask(t, s)
+		ask(t, s+strings.Repeat(" ", api.MaxText-len(s)))
+	}
+	wantError(t, strings.Repeat("p(a).", 1<<20), api.ErrLong)
+	wantError(t, strings.Repeat("\x00", 1<<22), api.ErrLong)
+}
