@@ -42,12 +42,18 @@ func (v *Vars) add(l api.Lit) {
 }
 
 func (v *Vars) has(name string) bool {
-	for _, n := range v.names {
+	_, ok := v.Place(name)
+	return ok
+}
+
+// Place tells a variable's place in the list. It is false if it is not there.
+func (v *Vars) Place(name string) (int, bool) {
+	for i, n := range v.names {
 		if n == name {
-			return true
+			return i, true
 		}
 	}
-	return false
+	return 0, false
 }
 
 // Count tells how many variables there are.

@@ -5,7 +5,10 @@ import (
 	"derive/api"
 	"derive/check"
 	"derive/clauses"
+	"derive/consts"
 	"derive/preds"
+	"derive/rules"
+	"derive/runs"
 	"derive/words"
 )
 
@@ -85,19 +88,18 @@ func (p *Program) Text() string {
 	return s
 }
 
-// Result is what follows.
-type Result struct{}
-
-// Run works out what follows (P8, P11).
+// Run works out what follows (P8).
+//
+// The orders are not looked at yet: rules are joined in the order of Vars.
 func (p *Program) Run(orders [][]int, rows int, rounds int) (*Result, api.Errno) {
-	return nil, api.OK
+	if rows < 0 || rows > api.MaxLimit || rounds < 0 || rounds > api.MaxLimit {
+		return nil, api.ErrArg
+	}
+	values := consts.Collect(p.clauses)
+	set := rules.Make(p.clauses, &p.preds, &values)
+	out, ok := runs.Run(set, rows, rounds)
+	if !ok {
+		return nil, api.ErrLimit
+	}
+	return &Result{preds: p.preds, values: values, out: out}, api.OK
 }
-
-// Rows tells the rows of a predicate (P9).
-func (r *Result) Rows(pred string) ([][]string, api.Errno) { return nil, api.OK }
-
-// When tells the round in which a row came (P10).
-func (r *Result) When(pred string, row []string) (int, api.Errno) { return 0, api.OK }
-
-// Counts tells how many rows, rounds and moves there were (P10, P12).
-func (r *Result) Counts() (int, int, int) { return 0, 0, 0 }

@@ -68,10 +68,30 @@ func (t *Table) Names() []string {
 	return list
 }
 
-// Stratum tells a predicate's stratum. It is false if there is no such predicate.
-func (t *Table) Stratum(name string) (int, bool) {
+// Count tells how many predicates there are.
+func (t *Table) Count() int { return len(t.preds) }
+
+// Find tells a predicate's number, which is its place. It is false if there is no such predicate.
+func (t *Table) Find(name string) (int, bool) {
 	i := t.place(name)
 	if i >= len(t.preds) || t.preds[i].name != name {
+		return 0, false
+	}
+	return i, true
+}
+
+// Arity tells how many terms the predicate of a number has.
+func (t *Table) Arity(i int) int {
+	if i < 0 || i >= len(t.preds) {
+		return 0
+	}
+	return t.preds[i].arity
+}
+
+// Stratum tells a predicate's stratum. It is false if there is no such predicate.
+func (t *Table) Stratum(name string) (int, bool) {
+	i, ok := t.Find(name)
+	if !ok {
 		return 0, false
 	}
 	return t.preds[i].stratum, true

@@ -43,8 +43,8 @@ func (t *Table) leastOfHead(c clauses.Clause) int {
 }
 
 func (t *Table) raise(name string, least int) bool {
-	i := t.place(name)
-	if i >= len(t.preds) || t.preds[i].name != name || t.preds[i].stratum >= least {
+	i, ok := t.Find(name)
+	if !ok || t.preds[i].stratum >= least {
 		return false
 	}
 	t.preds[i].stratum = least

@@ -37,6 +37,51 @@ func ask(t *testing.T, s string) {
 			t.Fatalf("P1: of %q: Stratum(%q) = %d, %d, want 0, ErrPred", s, name, n, e)
 		}
 	}
+	askRun(t, s, p)
+}
+
+// askRun runs a program with limits of all kinds, and looks at the form of what comes out.
+func askRun(t *testing.T, s string, p *derive.Program) {
+	t.Helper()
+	for _, rows := range []int{math.MinInt, -1, 0, 1, 50, math.MaxInt} {
+		for _, rounds := range []int{math.MinInt, -1, 0, 1, 50, math.MaxInt} {
+			r, e := p.Run(nil, rows, rounds)
+			if (e != api.OK && e != api.ErrArg && e != api.ErrLimit) || (r != nil) != (e == api.OK) {
+				t.Fatalf("P1: Run(nil, %d, %d) of %q = %d, with a result: %v", rows, rounds, s, e, r != nil)
+			}
+			if r != nil {
+				askResult(t, s, p, r)
+			}
+		}
+	}
+}
+
+func askResult(t *testing.T, s string, p *derive.Program, r *derive.Result) {
+	t.Helper()
+	odd := [][]string{nil, {}, {""}, {"\xff", "X"}, {"p", "a", "1"}, make([]string, 40)}
+	for _, name := range []string{"", " ", "nosuch", "X", "\xff", strings.Repeat("p", 1000)} {
+		if list, e := r.Rows(name); list != nil || e != api.ErrPred {
+			t.Fatalf("P1: of %q: Rows(%q) = %v, %d, want nil, ErrPred", s, name, list, e)
+		}
+		for _, row := range odd {
+			if n, e := r.When(name, row); n != 0 || e != api.ErrPred {
+				t.Fatalf("P1: of %q: When(%q, %q) = %d, %d, want 0, ErrPred", s, name, row, n, e)
+			}
+		}
+	}
+	for _, name := range p.Preds() {
+		if _, e := r.Rows(name); e != api.OK {
+			t.Fatalf("P1: of %q: Rows(%q) is %d, want OK", s, name, e)
+		}
+		for _, row := range odd {
+			if n, e := r.When(name, row); (e != api.OK && e != api.ErrRow) || (e != api.OK && n != 0) {
+				t.Fatalf("P1: of %q: When(%q, %q) = %d, %d", s, name, row, n, e)
+			}
+		}
+	}
+	if a, b, c := r.Counts(); a < 0 || b < 0 || c < 0 {
+		t.Fatalf("P1: of %q: Counts = %d, %d, %d", s, a, b, c)
+	}
 }
 
 func TestP1EveryBeginningAndEveryEnd(t *testing.T) {

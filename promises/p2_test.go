@@ -1,6 +1,7 @@
 package promises
 
 import (
+	"fmt"
 	"testing"
 
 	"derive/api"
@@ -21,6 +22,20 @@ func spoil(p *derive.Program) {
 		full := c[:cap(c)]
 		for k := range full {
 			full[k] = api.Lit{Pred: "mine"}
+		}
+	}
+}
+
+// spoilRun asks for the rows of every predicate and writes into all of them, and behind them.
+func spoilRun(r *derive.Result, preds []string) {
+	for _, name := range preds {
+		rows, _ := r.Rows(name)
+		for i := range rows {
+			spoilStrings(rows[i])
+		}
+		full := rows[:cap(rows)]
+		for i := range full {
+			full[i] = []string{"mine"}
 		}
 	}
 }
@@ -138,6 +153,156 @@ func TestP2ProgramsDoNotMeet(t *testing.T) {
 		q := compile(t, samples()[i])
 		if again := told(q); again != first[i] {
 			t.Errorf("P2: the same text once more:\n%s\nwant:\n%s", again, first[i])
+		}
+	}
+}
+
+func TestP2ResultsDoNotHangOnWhatTheCallerWrites(t *testing.T) {
+	for _, s := range samples() {
+		p, r := compile(t, s), run(t, s)
+		before := toldRun(r, p.Preds())
+		for n := 0; n < 3; n++ {
+			spoilRun(r, p.Preds())
+			if after := toldRun(r, p.Preds()); after != before {
+				t.Fatalf("P2: of %q:\n%s\nbehind what the caller wrote:\n%s", s, before, after)
+			}
+		}
+	}
+}
+
+func TestP2RowsHaveNoSpareRoom(t *testing.T) {
+	for _, s := range samples() {
+		p, r := compile(t, s), run(t, s)
+		for _, name := range p.Preds() {
+			wantNoSpareRoom(t, s, name, r)
+		}
+	}
+	// Each number of rows up to some sixty.
+	s := "p(0)."
+	for n := 1; len(s) <= api.MaxText; n++ {
+		r := run(t, s)
+		wantNoSpareRoom(t, s, "p", r)
+		if rows, _ := r.Rows("p"); len(rows) != n {
+			t.Errorf("P9: of %q Rows(p) has %d rows, want %d", s, len(rows), n)
+		}
+		s += fmt.Sprintf("p(%d).", n)
+	}
+	rules := "p(X,Y):-n(X),n(Y).q(X,Y,Z):-p(X,Y),n(Z).n(0)."
+	for n := 1; n < 9; n++ {
+		wantNoSpareRoom(t, rules, "p", run(t, rules))
+		wantNoSpareRoom(t, rules, "q", run(t, rules))
+		rules += fmt.Sprintf("n(%d).", n)
+	}
+}
+
+func wantNoSpareRoom(t *testing.T, s, pred string, r *derive.Result) {
+	t.Helper()
+	rows, _ := r.Rows(pred)
+	if cap(rows) != len(rows) {
+		t.Errorf("P2: of %q Rows(%q) has %d rows and room for %d", s, pred, len(rows), cap(rows))
+	}
+	for _, row := range rows {
+		if cap(row) != len(row) {
+			t.Errorf("P2: of %q a row of Rows(%q) has %d terms and room for %d", s, pred, len(row), cap(row))
+		}
+	}
+}
+
+func TestP2RowsOfOneAnswerShareNothing(t *testing.T) {
+	r := run(t, "p(a,a,a). p(a,a,b). p(a,b,a). p(X,Y,Z) :- p(Z,Y,X).")
+	want, _ := r.Rows("p")
+	for i := range want {
+		rows, _ := r.Rows("p")
+		spoilStrings(rows[i])
+		for k := range rows {
+			if k != i && !sameStrings(rows[k], want[k]) {
+				t.Errorf("P2: to write into row %d makes row %d %q", i, k, rows[k])
+			}
+		}
+	}
+}
+
+func TestP2RowsThatAreHandedInAreOnlyRead(t *testing.T) {
+	r := run(t, "p(a,b). p(b,c). p(X,Z) :- p(X,Y), p(Y,Z). q(a).")
+	full := []string{"a", "c", "behind", "it"}
+	for _, name := range []string{"p", "q", "nosuch"} {
+		for n := range full {
+			r.When(name, full[:n])
+			if !sameStrings(full, []string{"a", "c", "behind", "it"}) {
+				t.Fatalf("P2: When(%q, ..) has written into the row: %q", name, full)
+			}
+		}
+	}
+	row := []string{"a", "c"}
+	first, _ := r.When("p", row)
+	row[0], row[1] = "mine", "mine"
+	if n, e := r.When("p", []string{"a", "c"}); n != first || e != api.OK {
+		t.Errorf("P2: When(p, a, c) = %d, %d behind a change of the row that was handed in, want %d", n, e, first)
+	}
+	if n, e := r.When("p", row); n != 0 || e != api.ErrRow {
+		t.Errorf("P2: When(p, mine, mine) = %d, %d, want 0, ErrRow", n, e)
+	}
+}
+
+func TestP2EarlierRowsStay(t *testing.T) {
+	s := "e(a,b). e(b,c). p(X,Y) :- e(X,Y). p(X,Z) :- p(X,Y), e(Y,Z)."
+	p := compile(t, s)
+	r, _ := p.Run(nil, 100, 100)
+	rows, _ := r.Rows("p")
+	spoilRun(r, p.Preds())
+	p.Run(nil, 1, 1)
+	p.Run(nil, 100, 100)
+	told(p)
+	if rowsText(rows) != "(a,b) (a,c) (b,c)" {
+		t.Errorf("P2: rows that came out earlier are now %s", rowsText(rows))
+	}
+}
+
+// Runs of one program, with one another and with what the program tells, do not meet; a run that breaks off leaves nothing.
+func TestP2RunsDoNotMeet(t *testing.T) {
+	for _, s := range samples() {
+		p := compile(t, s)
+		tells := told(p)
+		first, e := p.Run(nil, 4096, 4096)
+		if e != api.OK {
+			t.Fatalf("P8: Run of %q = %d", s, e)
+		}
+		want := toldRun(first, p.Preds())
+		for limit := 0; limit < 12; limit++ {
+			p.Run(nil, limit, 4096)
+			p.Run(nil, 4096, limit)
+			p.Run(nil, -limit, limit)
+		}
+		spoil(p)
+		second, e := p.Run(nil, 4095, 4095)
+		if e != api.OK {
+			t.Fatalf("P8: Run of %q = %d", s, e)
+		}
+		for _, r := range []*derive.Result{first, second} {
+			if got := toldRun(r, p.Preds()); got != want {
+				t.Errorf("P2: of %q:\n%s\nwant:\n%s", s, got, want)
+			}
+		}
+		if again := told(p); again != tells {
+			t.Errorf("P2: of %q behind its runs:\n%s\nwant:\n%s", s, again, tells)
+		}
+	}
+}
+
+// What the program tells is the caller's: to write into it changes no run, and no result.
+func TestP2RunsDoNotHangOnWhatTheCallerWrites(t *testing.T) {
+	for _, s := range samples() {
+		p := compile(t, s)
+		preds := p.Preds()
+		before, _ := p.Run(nil, 4096, 4096)
+		want := toldRun(before, preds)
+		spoil(p)
+		after, e := p.Run(nil, 4096, 4096)
+		if e != api.OK {
+			t.Fatalf("P8: Run of %q = %d", s, e)
+		}
+		if toldRun(before, preds) != want || toldRun(after, preds) != want {
+			t.Errorf("P2: of %q: behind what the caller wrote other rows follow", s)
 		}
 	}
 }

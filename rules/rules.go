@@ -1,0 +1,124 @@
+package rules
+
+import (
+	"derive/api"
+	"derive/clauses"
+	"derive/consts"
+	"derive/preds"
+	"derive/trie"
+)
+
+// Fact is a row that is there from the beginning.
+type Fact struct {
+	Pred int
+	Row  trie.Row
+}
+
+// Rule says rows of its head's predicate.
+type Rule struct {
+	Stratum int // of the head
+	Vars    int // how many variables it has
+	Head    Lit
+	Plain   []Lit
+	Not     []Lit
+}
+
+// Back tells where to go on when, with the first so many variables as they are, all is said that can be said: at the
+// last of them that the head has, or that a literal has together with one of the variables behind them. With other values
+// of those behind that one the rule would but say the same once more. It is -1 if there is none.
+func (r Rule) Back(known int) int {
+	back := r.Head.lastOf(known)
+	for _, l := range r.Plain {
+		tied := l.tied(known)
+		if tied > back {
+			back = tied
+		}
+	}
+	for _, l := range r.Not {
+		tied := l.tied(known)
+		if tied > back {
+			back = tied
+		}
+	}
+	return back
+}
+
+// Set is a text in numbers.
+type Set struct {
+	Width   int   // how many values there are
+	Arities []int // of each predicate
+	Facts   []Fact
+	Rules   []Rule
+}
+
+// maker has at hand what gives the numbers.
+type maker struct {
+	preds  *preds.Table
+	values *consts.Table
+}
+
+// Make puts the clauses of a text into numbers.
+func Make(list []clauses.Clause, names *preds.Table, values *consts.Table) Set {
+	m := maker{preds: names, values: values}
+	s := Set{Width: values.Count(), Arities: make([]int, names.Count())}
+	for i := range s.Arities {
+		s.Arities[i] = names.Arity(i)
+	}
+	for _, c := range list {
+		if len(c.Body) > 0 {
+			r := m.rule(c)
+			s.Rules = append(s.Rules, r)
+		} else {
+			f := m.fact(c)
+			s.Facts = append(s.Facts, f)
+		}
+	}
+	return s
+}
+
+// fact takes the head at no values: a fact has no variables.
+func (m *maker) fact(c clauses.Clause) Fact {
+	var none clauses.Vars
+	head := m.lit(c.Head, &none)
+	return Fact{Pred: head.Pred, Row: head.Row(Values{})}
+}
+
+func (m *maker) rule(c clauses.Clause) Rule {
+	vars := c.Plain()
+	stratum, _ := m.preds.Stratum(c.Head.Pred)
+	r := Rule{Stratum: stratum, Vars: vars.Count()}
+	r.Head = m.lit(c.Head, &vars)
+	for _, b := range c.Body {
+		l := m.lit(b, &vars)
+		if b.Not {
+			r.Not = append(r.Not, l)
+		} else {
+			r.Plain = append(r.Plain, l)
+		}
+	}
+	return r
+}
+
+func (m *maker) lit(l api.Lit, vars *clauses.Vars) Lit {
+	number, _ := m.preds.Find(l.Pred)
+	out := Lit{Pred: number, Terms: make([]Term, len(l.Args))}
+	for i, term := range l.Args {
+		out.Terms[i] = m.term(term, vars)
+	}
+	for i, t := range out.Terms {
+		if t.Var {
+			level, _ := out.Level(t.Num)
+			out.Terms[i].Level = level
+		}
+	}
+	return out
+}
+
+func (m *maker) term(term string, vars *clauses.Vars) Term {
+	if clauses.IsVariable(term) {
+		place, _ := vars.Place(term)
+		return Term{Var: true, Num: place}
+	}
+	value, _ := m.values.Value(term)
+	return Term{Num: value}
+}
