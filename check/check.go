@@ -1,4 +1,5 @@
-// Package check looks for what a clause may not have: too much of something (ErrMany), a variable that nothing binds (ErrSafe).
+// Package check looks for what a clause may not have: too much of something (ErrMany), a variable that nothing binds
+// (ErrSafe), an order that is none of its variables (ErrOrder).
 package check
 
 import (

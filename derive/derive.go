@@ -88,15 +88,16 @@ func (p *Program) Text() string {
 	return s
 }
 
-// Run works out what follows (P8).
-//
-// The orders are not looked at yet: rules are joined in the order of Vars.
+// Run works out what follows (P8). The orders are those in which the clauses' variables are joined (P11).
 func (p *Program) Run(orders [][]int, rows int, rounds int) (*Result, api.Errno) {
 	if rows < 0 || rows > api.MaxLimit || rounds < 0 || rounds > api.MaxLimit {
 		return nil, api.ErrArg
 	}
+	if !check.Orders(p.clauses, orders) {
+		return nil, api.ErrOrder
+	}
 	values := consts.Collect(p.clauses)
-	set := rules.Make(p.clauses, &p.preds, &values)
+	set := rules.Make(p.clauses, &p.preds, &values, orders)
 	out, ok := runs.Run(set, rows, rounds)
 	if !ok {
 		return nil, api.ErrLimit

@@ -72,7 +72,7 @@ func (r *Result) row(terms []string) (trie.Row, bool) {
 	return row, true
 }
 
-// Counts tells how many rows, rounds and moves there were (P10). Moves are not counted yet.
+// Counts tells how many rows, rounds and moves there were (P10).
 func (r *Result) Counts() (int, int, int) {
-	return r.out.Count, r.out.Rounds, 0
+	return r.out.Count, r.out.Rounds, r.out.Moves
 }

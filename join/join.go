@@ -41,6 +41,7 @@ type Join struct {
 	values rules.Values
 	from   rules.Values // for each variable the least value that is still to be tried
 	depth  int          // the variable at which to go on; -1: nothing is left
+	moves  int
 }
 
 // New makes a join: plain has the rows that each plain literal allows, by its variables' levels, and not has all rows of
@@ -93,6 +94,9 @@ func (j *Join) Next() bool {
 func (j *Join) Head() trie.Row {
 	return j.head.Row(j.values)
 }
+
+// Moves tells how many moves there were so far (P12).
+func (j *Join) Moves() int { return j.moves }
 
 // search looks for values of all variables, beginning at the one at which to go on. It ends, for the values rise: each
 // step takes a greater value of some variable, with those ahead of it as they are, or goes back.

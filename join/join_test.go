@@ -92,6 +92,55 @@ func TestNegatedLiterals(t *testing.T) {
 	wantHeads(t, New(rule, []*trie.Trie{a, a}, not), trie.Row{0}, trie.Row{2})
 }
 
+// wantJoinMoves goes through the whole join.
+func wantJoinMoves(t *testing.T, j Join, want int) {
+	t.Helper()
+	if j.Moves() != 0 {
+		t.Errorf("there are %d moves at the beginning", j.Moves())
+	}
+	for j.Next() {
+	}
+	if j.Moves() != want {
+		t.Errorf("there are %d moves, want %d", j.Moves(), want)
+	}
+	if j.Next() || j.Moves() != want {
+		t.Errorf("behind the end there are %d moves, want %d", j.Moves(), want)
+	}
+}
+
+func TestMoves(t *testing.T) {
+	one := rules.Rule{Vars: 1, Head: lit(v(0, 0)), Plain: []rules.Lit{lit(v(0, 0))}}
+	two := rules.Rule{Vars: 1, Head: lit(v(0, 0)), Plain: []rules.Lit{lit(v(0, 0)), lit(v(0, 0))}}
+	many := rows(1, trie.Row{0}, trie.Row{1}, trie.Row{2}, trie.Row{3}, trie.Row{4})
+	last := rows(1, trie.Row{4})
+	// Each value is a move, and to find none any more.
+	wantJoinMoves(t, New(one, []*trie.Trie{many}, nil), 6)
+	wantJoinMoves(t, New(one, []*trie.Trie{last}, nil), 2)
+	// To the first 0, to the 4, from 0 to the 4 at once, and no more.
+	wantJoinMoves(t, New(two, []*trie.Trie{many, last}, nil), 4)
+	wantJoinMoves(t, New(two, []*trie.Trie{last, many}, nil), 3)
+	wantJoinMoves(t, New(two, []*trie.Trie{many, many}, nil), 11)
+	// 0, 4, and no more.
+	wantJoinMoves(t, New(two, []*trie.Trie{rows(1, trie.Row{0}), last}, nil), 3)
+	// Nothing to look at.
+	wantJoinMoves(t, New(two, []*trie.Trie{rows(1), many}, nil), 0)
+	wantJoinMoves(t, New(two, []*trie.Trie{many, rows(1)}, nil), 0)
+	// Negated literals make none.
+	one.Not = []rules.Lit{lit(v(0, 0)), lit(c(1))}
+	wantJoinMoves(t, New(one, []*trie.Trie{many}, []*trie.Trie{last, rows(1)}), 6)
+	wantJoinMoves(t, New(rules.Rule{Head: lit(), Not: []rules.Lit{lit()}}, nil, []*trie.Trie{rows(0)}), 0)
+}
+
+func TestMovesOfTwoVariables(t *testing.T) {
+	e := rows(2, trie.Row{0, 1}, trie.Row{0, 3}, trie.Row{2, 4})
+	rule := rules.Rule{Vars: 2, Head: lit(v(0, 0), v(1, 1)), Plain: []rules.Lit{lit(v(0, 0), v(1, 1))}}
+	// 0, there 1, 3 and no more; 2, there 4 and no more; no more.
+	wantJoinMoves(t, New(rule, []*trie.Trie{e}, nil), 8)
+	// 0 and there 1; 2 and there 4; no more: the head does not say the second variable.
+	rule.Head = lit(v(0, 0))
+	wantJoinMoves(t, New(rule, []*trie.Trie{e}, nil), 5)
+}
+
 func TestNoVariables(t *testing.T) {
 	rule := rules.Rule{Head: lit(c(2)), Plain: []rules.Lit{lit(c(1))}, Not: []rules.Lit{lit(c(3), c(0))}}
 	there, gone := rows(0, trie.Row{}), rows(0)

@@ -28,10 +28,13 @@ func (j *Join) agree(place, from int) (int, bool) {
 	return at, true
 }
 
+// leap is a move: to a variable's first value that a side allows and that is not below another. From 0 it comes to the
+// first of all, from one more than the value before to the next one.
 func (j *Join) leap(h hold, from int) (int, bool) {
 	if !j.stands(h) {
 		return 0, false
 	}
+	j.moves++
 	return j.sides[h.side].rows.Leap(j.sides[h.side].nodes[h.level], from)
 }
 

@@ -98,9 +98,12 @@ func rowsText(rows [][]string) string {
 
 // toldRun writes down all that a result tells of these predicates.
 func toldRun(r *derive.Result, preds []string) string {
-	var b strings.Builder
 	rows, rounds, moves := r.Counts()
-	fmt.Fprintf(&b, "%d %d %d\n", rows, rounds, moves)
+	return fmt.Sprintf("%d %d %d\n", rows, rounds, moves) + toldRows(r, preds)
+}
+
+func toldRows(r *derive.Result, preds []string) string {
+	var b strings.Builder
 	for _, name := range append(preds, "", "nosuch", "X") {
 		list, e := r.Rows(name)
 		fmt.Fprintf(&b, "%s %d %q %d\n", name, len(list), list, e)

@@ -84,6 +84,52 @@ func askResult(t *testing.T, s string, p *derive.Program, r *derive.Result) {
 	}
 }
 
+// Lists of any length with any numbers, most of them wrong.
+func TestP1AnyOrders(t *testing.T) {
+	r := rand.New(rand.NewSource(2))
+	numbers := []int{0, 0, 0, 1, 1, 1, 2, 2, 3, 4, 5, 6, -1, -5, 1 << 31, 1 << 32, -1 << 31, math.MinInt, math.MaxInt}
+	good := 0
+	for n := 0; n < 60000; n++ {
+		s := samples()[r.Intn(len(samples()))]
+		p := compile(t, s)
+		orders := make([][]int, max(0, p.Clauses()+r.Intn(20)/18-r.Intn(20)/18))
+		right := len(orders) == p.Clauses()
+		for i := range orders {
+			v, _ := p.Vars(i)
+			switch r.Intn(12) {
+			case 0:
+				orders[i] = make([]int, r.Intn(8))
+				for k := range orders[i] {
+					orders[i][k] = numbers[r.Intn(len(numbers))]
+				}
+				right = right && isOrder(orders[i], len(v))
+			case 1, 2, 3:
+				orders[i] = r.Perm(len(v))
+			}
+		}
+		limit := r.Intn(40) - 2
+		want, _ := p.Run(nil, limit, 40)
+		got, e := p.Run(orders, limit, 40)
+		switch {
+		case limit < 0:
+			right = e == api.ErrArg && got == nil
+		case !right:
+			right = e == api.ErrOrder && got == nil
+		case want == nil:
+			right = e == api.ErrLimit && got == nil
+		default:
+			right = e == api.OK && got != nil && toldButMoves(got, p.Preds()) == toldButMoves(want, p.Preds())
+			good++
+		}
+		if !right {
+			t.Fatalf("P1: Run(%s, %d, 40) of %q = %d, with a result: %v", ordersText(orders), limit, s, e, got != nil)
+		}
+	}
+	if good < 1000 {
+		t.Errorf("the orders are no good: %d alone are orders", good)
+	}
+}
+
 func TestP1EveryBeginningAndEveryEnd(t *testing.T) {
 	for _, s := range samples() {
 		for i := 0; i <= len(s); i++ {

@@ -2,6 +2,7 @@ package promises
 
 import (
 	"fmt"
+	"math/rand"
 	"testing"
 
 	"derive/api"
@@ -241,6 +242,81 @@ func TestP2RowsThatAreHandedInAreOnlyRead(t *testing.T) {
 	}
 	if n, e := r.When("p", row); n != 0 || e != api.ErrRow {
 		t.Errorf("P2: When(p, mine, mine) = %d, %d, want 0, ErrRow", n, e)
+	}
+}
+
+// The orders, the lists in them, and the spare room behind each stay as they are, whatever Run answers.
+func TestP2OrdersAreOnlyRead(t *testing.T) {
+	s := "e(a,b). e(b,c). r(X,Z) :- e(X,Y), e(Y,Z). t(X,Y) :- r(X,Y), !e(X,Y)."
+	p := compile(t, s)
+	full := []int{2, 0, 1, 7, -8, 9}
+	for length := 0; length <= len(full); length++ {
+		list := append([]int{}, full...)
+		orders := [][]int{nil, {}, list[:length], {1, 0}, {5, 5}, nil, {6}}
+		for lists := 0; lists <= len(orders); lists++ {
+			before := copyOrders(orders)
+			for _, limit := range []int{-1, 0, 3, 100} {
+				r, e := p.Run(orders[:lists], limit, 100)
+				if (r != nil) != (lists == 4 && length == 3 && limit == 100) {
+					t.Errorf("P11: Run(%s, %d, 100) = %d", ordersText(orders[:lists]), limit, e)
+				}
+				if ordersText(orders) != ordersText(before) || fmt.Sprint(list) != fmt.Sprint(full) {
+					t.Fatalf("P2: Run has written into the orders: %s, %v", ordersText(orders), list)
+				}
+			}
+		}
+	}
+}
+
+// To write into the orders behind a run changes neither its result nor what comes later.
+func TestP2OrdersAreNotKept(t *testing.T) {
+	r := rand.New(rand.NewSource(4))
+	for _, s := range samples() {
+		p := compile(t, s)
+		tells := told(p)
+		for n := 0; n < 10; n++ {
+			orders := anyOrders(r, p)
+			same := copyOrders(orders)
+			first, e := p.Run(orders, 4096, 4096)
+			if e != api.OK {
+				t.Fatalf("P11: Run(%v) of %q = %d", orders, s, e)
+			}
+			want := toldRun(first, p.Preds())
+			for i := range orders {
+				for k := range orders[i] {
+					orders[i][k] = -1
+				}
+				orders[i] = []int{7, 7}
+			}
+			second, e := p.Run(same, 4096, 4096)
+			if e != api.OK {
+				t.Fatalf("P11: Run(%v) of %q once more = %d", same, s, e)
+			}
+			if toldRun(first, p.Preds()) != want || toldRun(second, p.Preds()) != want {
+				t.Errorf("P2: of %q with %v: behind what the caller wrote into the orders other things follow", s, same)
+			}
+		}
+		if told(p) != tells {
+			t.Errorf("P2: of %q: behind runs with orders the program tells other things", s)
+		}
+	}
+}
+
+// One list may stand for several clauses.
+func TestP2OrdersThatShareMemory(t *testing.T) {
+	s := "e(a,b). e(b,c). r(X,Y) :- e(X,Y). r(X,Y) :- e(Y,X). t(X,Y,Z) :- r(X,Y), e(Y,Z)."
+	p := compile(t, s)
+	list := []int{1, 0, 2}
+	shared, e := p.Run([][]int{list[:0], list[1:1], list[:2], list[:2], list}, 100, 100)
+	if e != api.OK {
+		t.Fatalf("P11: Run = %d", e)
+	}
+	own, e := p.Run([][]int{{}, {}, {1, 0}, {1, 0}, {1, 0, 2}}, 100, 100)
+	if e != api.OK {
+		t.Fatalf("P11: Run = %d", e)
+	}
+	if toldRun(shared, p.Preds()) != toldRun(own, p.Preds()) {
+		t.Errorf("P2: with orders that share memory other things follow")
 	}
 }
 

@@ -57,16 +57,17 @@ type maker struct {
 	values *consts.Table
 }
 
-// Make puts the clauses of a text into numbers.
-func Make(list []clauses.Clause, names *preds.Table, values *consts.Table) Set {
+// Make puts the clauses of a text into numbers. The orders are those in which the clauses' variables are joined (P11).
+func Make(list []clauses.Clause, names *preds.Table, values *consts.Table, orders [][]int) Set {
 	m := maker{preds: names, values: values}
 	s := Set{Width: values.Count(), Arities: make([]int, names.Count())}
 	for i := range s.Arities {
 		s.Arities[i] = names.Arity(i)
 	}
-	for _, c := range list {
+	for i, c := range list {
 		if len(c.Body) > 0 {
-			r := m.rule(c)
+			order := orderAt(orders, i)
+			r := m.rule(c, order)
 			s.Rules = append(s.Rules, r)
 		} else {
 			f := m.fact(c)
@@ -76,20 +77,28 @@ func Make(list []clauses.Clause, names *preds.Table, values *consts.Table) Set {
 	return s
 }
 
+// orderAt gives the order of a clause. It is nil, that of Vars, where none is told.
+func orderAt(orders [][]int, i int) []int {
+	if i < 0 || i >= len(orders) {
+		return nil
+	}
+	return orders[i]
+}
+
 // fact takes the head at no values: a fact has no variables.
 func (m *maker) fact(c clauses.Clause) Fact {
-	var none clauses.Vars
+	var none scope
 	head := m.lit(c.Head, &none)
 	return Fact{Pred: head.Pred, Row: head.Row(Values{})}
 }
 
-func (m *maker) rule(c clauses.Clause) Rule {
-	vars := c.Plain()
+func (m *maker) rule(c clauses.Clause, order []int) Rule {
+	s := scopeOf(c, order)
 	stratum, _ := m.preds.Stratum(c.Head.Pred)
-	r := Rule{Stratum: stratum, Vars: vars.Count()}
-	r.Head = m.lit(c.Head, &vars)
+	r := Rule{Stratum: stratum, Vars: s.vars.Count()}
+	r.Head = m.lit(c.Head, &s)
 	for _, b := range c.Body {
-		l := m.lit(b, &vars)
+		l := m.lit(b, &s)
 		if b.Not {
 			r.Not = append(r.Not, l)
 		} else {
@@ -99,11 +108,11 @@ func (m *maker) rule(c clauses.Clause) Rule {
 	return r
 }
 
-func (m *maker) lit(l api.Lit, vars *clauses.Vars) Lit {
+func (m *maker) lit(l api.Lit, s *scope) Lit {
 	number, _ := m.preds.Find(l.Pred)
 	out := Lit{Pred: number, Terms: make([]Term, len(l.Args))}
 	for i, term := range l.Args {
-		out.Terms[i] = m.term(term, vars)
+		out.Terms[i] = m.term(term, s)
 	}
 	for i, t := range out.Terms {
 		if t.Var {
@@ -114,10 +123,9 @@ func (m *maker) lit(l api.Lit, vars *clauses.Vars) Lit {
 	return out
 }
 
-func (m *maker) term(term string, vars *clauses.Vars) Term {
+func (m *maker) term(term string, s *scope) Term {
 	if clauses.IsVariable(term) {
-		place, _ := vars.Place(term)
-		return Term{Var: true, Num: place}
+		return Term{Var: true, Num: s.place(term)}
 	}
 	value, _ := m.values.Value(term)
 	return Term{Num: value}

@@ -12,6 +12,11 @@ import (
 
 func set(t *testing.T, s string) Set {
 	t.Helper()
+	return ordered(t, s, nil)
+}
+
+func ordered(t *testing.T, s string, orders [][]int) Set {
+	t.Helper()
 	found, ok := words.Split(s)
 	if !ok {
 		t.Fatalf("Split(%q) is false", s)
@@ -25,7 +30,7 @@ func set(t *testing.T, s string) Set {
 		t.Fatalf("%q has no strata", s)
 	}
 	values := consts.Collect(list)
-	return Make(list, &names, &values)
+	return Make(list, &names, &values, orders)
 }
 
 func sameInts(a, b []int) bool {
@@ -68,6 +73,62 @@ func TestMake(t *testing.T) {
 	}
 	if row := r.Plain[0].Row(Values{1, 2}); row != (trie.Row{1, 2, 0}) {
 		t.Errorf("q's row is %v", row)
+	}
+}
+
+// An order has the numbers of Vars: with 2, 0, 1 the third variable of Vars is joined first.
+func TestMakeWithOrders(t *testing.T) {
+	s := "q(a,b,c). p(A,C) :- q(A,B,C), !r(B,C,A). u(X) :- q(X,Y,k)."
+	for _, c := range []struct {
+		order       []int
+		head, plain trie.Row // at the values 0, 1, 2 by the order
+	}{
+		{nil, trie.Row{0, 2}, trie.Row{0, 1, 2}},
+		{[]int{0, 1, 2}, trie.Row{0, 2}, trie.Row{0, 1, 2}},
+		{[]int{2, 0, 1}, trie.Row{1, 0}, trie.Row{1, 2, 0}},
+		{[]int{1, 2, 0}, trie.Row{2, 1}, trie.Row{2, 0, 1}},
+		{[]int{2, 1, 0}, trie.Row{2, 0}, trie.Row{2, 1, 0}},
+	} {
+		made := ordered(t, s, [][]int{nil, c.order, nil})
+		r := made.Rules[0]
+		if row := r.Head.Row(Values{0, 1, 2}); row != c.head {
+			t.Errorf("in the order %v the head says %v, want %v", c.order, row, c.head)
+		}
+		if row := r.Plain[0].Row(Values{0, 1, 2}); row != c.plain {
+			t.Errorf("in the order %v q's row is %v, want %v", c.order, row, c.plain)
+		}
+		want := trie.Row{c.plain[1], c.plain[2], c.plain[0]}
+		if row := r.Not[0].Row(Values{0, 1, 2}); row != want {
+			t.Errorf("in the order %v r's row is %v, want %v", c.order, row, want)
+		}
+		// The first variable of the order is at level 0: at these values the row is sorted as 0, 1, 2.
+		if row, ok := r.Plain[0].Match(c.plain); row != (trie.Row{0, 1, 2}) || !ok {
+			t.Errorf("in the order %v Match(%v) = %v, %v", c.order, c.plain, row, ok)
+		}
+		// The order of one clause is not that of another.
+		if row := made.Rules[1].Plain[0].Row(Values{0, 1}); row != (trie.Row{0, 1, 3}) {
+			t.Errorf("in the order %v q's row in the other rule is %v", c.order, row)
+		}
+		if row := made.Facts[0].Row; row != (trie.Row{0, 1, 2}) {
+			t.Errorf("in the order %v the fact is %v", c.order, row)
+		}
+	}
+}
+
+// How far to go back hangs on the order.
+func TestBackInAnOrder(t *testing.T) {
+	s := "p(C) :- q(A), q(B), r(A,C)."
+	for _, c := range []struct{ order, want []int }{
+		{nil, []int{-1, 0, 0, 2}},
+		{[]int{2, 0, 1}, []int{-1, 0, 0, 0}},
+		{[]int{1, 2, 0}, []int{-1, -1, 1, 1}},
+	} {
+		r := ordered(t, s, [][]int{c.order}).Rules[0]
+		for known, want := range c.want {
+			if got := r.Back(known); got != want {
+				t.Errorf("in the order %v Back(%d) = %d, want %d", c.order, known, got, want)
+			}
+		}
 	}
 }
 

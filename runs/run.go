@@ -12,6 +12,7 @@ type Outcome struct {
 	Rows   []*trie.Trie // for each predicate its rows; a row's mark is the round in which it came
 	Count  int          // of all rows
 	Rounds int
+	Moves  int // of all joins together
 }
 
 // run is a run under way.
@@ -130,5 +131,6 @@ func (r *run) addAll(pred int, j *join.Join) bool {
 			return false
 		}
 	}
+	r.out.Moves += j.Moves()
 	return true
 }

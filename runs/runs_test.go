@@ -40,9 +40,28 @@ func TestRun(t *testing.T) {
 	}
 }
 
+// Moves are those of all joins of all rounds.
+func TestMoves(t *testing.T) {
+	s := way()
+	s.Rules = s.Rules[:1]
+	// Three times a step's beginning, its end, and no more ends; no more beginnings. The second round has nothing to join.
+	out, ok := Run(s, 6, 2)
+	if !ok || out.Moves != 10 {
+		t.Errorf("%d moves, %v, want 10", out.Moves, ok)
+	}
+	whole, ok := Run(way(), 9, 4)
+	if !ok || whole.Moves <= out.Moves {
+		t.Errorf("%d moves, %v, want more than %d", whole.Moves, ok, out.Moves)
+	}
+	again, ok := Run(way(), 100, 100)
+	if !ok || again.Moves != whole.Moves {
+		t.Errorf("%d moves, %v, and once more %d", whole.Moves, ok, again.Moves)
+	}
+}
+
 func TestLimits(t *testing.T) {
 	for _, c := range []struct{ rows, rounds int }{{8, 4}, {9, 3}, {0, 0}, {2, 9}, {9, 0}, {-1, -1}} {
-		if out, ok := Run(way(), c.rows, c.rounds); ok || out.Rows != nil || out.Count != 0 || out.Rounds != 0 {
+		if out, ok := Run(way(), c.rows, c.rounds); ok || out.Rows != nil || out.Count != 0 || out.Rounds != 0 || out.Moves != 0 {
 			t.Errorf("Run with %d rows and %d rounds = %v, %v", c.rows, c.rounds, out, ok)
 		}
 	}
